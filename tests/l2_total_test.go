@@ -223,10 +223,13 @@ func TestP13StateFunctionsReturnTheSameAndKeepArguments(t *testing.T) {
 }
 
 // spoil writes over all that a result has, and over the room behind it.
-func spoil(list []int) {
+func spoil(list []int) { spoilWith(list, -77) }
+
+// spoilWith does so with an element.
+func spoilWith[T any](list []T, other T) {
 	list = list[:cap(list)]
 	for i := range list {
-		list[i] = -77
+		list[i] = other
 	}
 }
 

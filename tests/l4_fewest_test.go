@@ -7,8 +7,8 @@ import (
 	"loop.example/g01269/impl"
 )
 
-// key is a list of at most four numbers from -1 on, to be a key of a map.
-type key [5]int
+// key is a list of at most five numbers from -1 on, to be a key of a map.
+type key [6]int
 
 func keyOf(list []int) key {
 	k := key{len(list)}
@@ -223,14 +223,25 @@ func TestP4NeedsAreTheLeast(t *testing.T) {
 	}
 }
 
-// needsByNumbers finds the needs of all States of n numbers from below, each number for itself, for the tests alone.
-func needsByNumbers(n int) map[key]map[int]int {
-	needs := map[key]map[int]int{}
-	left := statesOf(n)
-	for questions := 0; len(left) > 0; questions++ {
+// stateNeeds has the needs of States of one size, by their Lies and Most.
+type stateNeeds map[key]map[int]int
+
+// of returns the need of a State, and true; it fails if it is not known.
+func (needs stateNeeds) of(s impl.State) (int, bool) {
+	need, ok := needs[keyOf(s.Lies)][s.Most]
+	return need, ok
+}
+
+// needsByNumbers finds the needs of all States of n numbers.
+func needsByNumbers(n int) stateNeeds { return needsWith(statesOf(n), questionsOf(n)) }
+
+// needsWith finds the needs of States from below, each number for itself, if only some questions are asked, for the tests alone: with one more, those are solved that have a question with both States behind it solved already.
+func needsWith(states []impl.State, questions []int) stateNeeds {
+	needs := stateNeeds{}
+	for many := 0; len(states) > 0; many++ {
 		var still, solved []impl.State
-		for _, s := range left {
-			if canTell(s, needs) {
+		for _, s := range states {
+			if canTell(s, questions, needs) {
 				solved = append(solved, s)
 			} else {
 				still = append(still, s)
@@ -240,20 +251,20 @@ func needsByNumbers(n int) map[key]map[int]int {
 			if needs[keyOf(s.Lies)] == nil {
 				needs[keyOf(s.Lies)] = map[int]int{}
 			}
-			needs[keyOf(s.Lies)][s.Most] = questions
+			needs[keyOf(s.Lies)][s.Most] = many
 		}
-		left = still
+		states = still
 	}
 	return needs
 }
 
-func canTell(s impl.State, needs map[key]map[int]int) bool {
+func canTell(s impl.State, questions []int, needs stateNeeds) bool {
 	if len(openOf(s)) <= 1 {
 		return true
 	}
-	return slices.ContainsFunc(questionsOf(len(s.Lies)), func(question int) bool {
-		_, yes := needs[keyOf(answered(s, impl.Asked{Question: question, Yes: true}).Lies)][s.Most]
-		_, no := needs[keyOf(answered(s, impl.Asked{Question: question}).Lies)][s.Most]
+	return slices.ContainsFunc(questions, func(question int) bool {
+		_, yes := needs.of(answered(s, impl.Asked{Question: question, Yes: true}))
+		_, no := needs.of(answered(s, impl.Asked{Question: question}))
 		return yes && no
 	})
 }
@@ -263,8 +274,9 @@ func TestP4NeedsOfCountsAreThoseOfTheirNumbers(t *testing.T) {
 		needs := needsByNumbers(n)
 		for _, s := range statesOf(n) {
 			counts, _ := impl.CountsOf(s)
-			if need, ok := impl.NeedOf(counts); !ok || need != needs[keyOf(s.Lies)][s.Most] {
-				t.Fatalf("NeedOf(%v) = %d, %v, and %v has %d", counts, need, ok, s, needs[keyOf(s.Lies)][s.Most])
+			want, _ := needs.of(s)
+			if need, ok := impl.NeedOf(counts); !ok || need != want {
+				t.Fatalf("NeedOf(%v) = %d, %v, and %v has %d", counts, need, ok, s, want)
 			}
 		}
 	}

@@ -194,11 +194,14 @@ func TestP13FewestFunctionsReturnTheSameAndKeepArguments(t *testing.T) {
 }
 
 // isOwnList reports whether a call that succeeds returns the same list again after one that it has returned is written over, and leaves those returned before as they are.
-func isOwnList(call func() ([]int, bool)) bool {
+func isOwnList(call func() ([]int, bool)) bool { return isOwnListOf(call, -77) }
+
+// isOwnListOf reports so for lists that are written over with an element.
+func isOwnListOf[T comparable](call func() ([]T, bool), other T) bool {
 	first, _ := call()
 	kept := slices.Clone(first)
 	second, _ := call()
-	spoil(first)
+	spoilWith(first, other)
 	third, ok := call()
 	return ok && len(kept) > 0 && slices.Equal(second, kept) && slices.Equal(third, kept)
 }
