@@ -158,11 +158,17 @@ func fewestCalls(counts []int, split []int, s impl.State, question int, most int
 }
 
 // withRoom returns a list with room behind it that shows a write past its end.
-func withRoom(list []int) []int { return append(slices.Clone(list), 77)[:len(list)] }
+func withRoom(list []int) []int { return withRoomOf(list, 77) }
+
+// withRoomOf returns so a list with an element in the room behind it.
+func withRoomOf[T any](list []T, other T) []T { return append(slices.Clone(list), other)[:len(list)] }
 
 // isKept reports whether a list made by withRoom is as the list it was made of.
-func isKept(room []int, list []int) bool {
-	return slices.Equal(room, list) && room[:len(list)+1][len(list)] == 77
+func isKept(room []int, list []int) bool { return isKeptOf(room, list, 77) }
+
+// isKeptOf reports so for a list made by withRoomOf.
+func isKeptOf[T comparable](room []T, list []T, other T) bool {
+	return slices.Equal(room, list) && room[:len(list)+1][len(list)] == other
 }
 
 func TestP13FewestFunctionsReturnTheSameAndKeepArguments(t *testing.T) {
