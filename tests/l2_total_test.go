@@ -49,6 +49,10 @@ func allZero(results ...any) bool {
 			if !isZeroState(s) {
 				return false
 			}
+		} else if tree, ok := r.(impl.Tree); ok {
+			if len(tree.Nodes) != 0 {
+				return false
+			}
 		} else if v.Kind() == reflect.Slice {
 			if v.Len() != 0 {
 				return false
