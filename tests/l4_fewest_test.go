@@ -83,14 +83,17 @@ func countsOf(s impl.State) []int {
 	return counts
 }
 
-// needsByCounts finds the needs of all counts from below, for the tests alone: with one question more, those are solved that have a split with both counts behind it solved already.
-func needsByCounts() map[key]int {
+// needsByCounts finds the needs of all counts.
+func needsByCounts() map[key]int { return needsByRule(yesTo) }
+
+// needsByRule finds the needs of all counts from below, by a rule of the counts to which yes leads, for the tests alone: with one question more, those are solved that have a split with both counts behind it solved already.
+func needsByRule(yesTo func(counts []int, split []int) []int) map[key]int {
 	needs := map[key]int{}
 	left := allCounts()
 	for questions := 0; len(left) > 0; questions++ {
 		solved := map[key]int{}
 		for _, counts := range left {
-			if canSolve(counts, needs) {
+			if canSolve(counts, yesTo, needs) {
 				solved[keyOf(counts)] = questions
 			}
 		}
@@ -105,7 +108,7 @@ func needsByCounts() map[key]int {
 	return needs
 }
 
-func canSolve(counts []int, needs map[key]int) bool {
+func canSolve(counts []int, yesTo func(counts []int, split []int) []int, needs map[key]int) bool {
 	if totalOf(counts) <= 1 {
 		return true
 	}
@@ -233,15 +236,18 @@ func (needs stateNeeds) of(s impl.State) (int, bool) {
 }
 
 // needsByNumbers finds the needs of all States of n numbers.
-func needsByNumbers(n int) stateNeeds { return needsWith(statesOf(n), questionsOf(n)) }
+func needsByNumbers(n int) stateNeeds { return needsWith(statesOf(n), questionsOf(n), answered) }
 
-// needsWith finds the needs of States from below, each number for itself, if only some questions are asked, for the tests alone: with one more, those are solved that have a question with both States behind it solved already.
-func needsWith(states []impl.State, questions []int) stateNeeds {
+// ruleOf tells the State behind an answer.
+type ruleOf func(s impl.State, a impl.Asked) impl.State
+
+// needsWith finds the needs of States from below, each number for itself, if only some questions are asked and answers lead on by a rule, for the tests alone: with one more, those are solved that have a question with both States behind it solved already.
+func needsWith(states []impl.State, questions []int, answered ruleOf) stateNeeds {
 	needs := stateNeeds{}
 	for many := 0; len(states) > 0; many++ {
 		var still, solved []impl.State
 		for _, s := range states {
-			if canTell(s, questions, needs) {
+			if canTell(s, questions, answered, needs) {
 				solved = append(solved, s)
 			} else {
 				still = append(still, s)
@@ -258,7 +264,7 @@ func needsWith(states []impl.State, questions []int) stateNeeds {
 	return needs
 }
 
-func canTell(s impl.State, questions []int, needs stateNeeds) bool {
+func canTell(s impl.State, questions []int, answered ruleOf, needs stateNeeds) bool {
 	if len(openOf(s)) <= 1 {
 		return true
 	}

@@ -31,7 +31,7 @@ func questionsLess(n int) []int {
 }
 
 // lessBy finds the less-needs of all short States of n numbers from below, for the tests alone.
-func lessBy(n int) stateNeeds { return needsWith(shortStates(n), questionsLess(n)) }
+func lessBy(n int) stateNeeds { return needsWith(shortStates(n), questionsLess(n), answered) }
 
 // ofLess is the document's rule of the less-need of a comparison, for the tests alone.
 func (needs stateNeeds) ofLess(s impl.State, k int) int {
